@@ -90,6 +90,22 @@ func TestRootsOfPowers(t *testing.T) {
 	}
 }
 
+// P4.2: roots with a run of bits 0 near their end: there a step of Newton's is
+// 1 or 2, and must not be less.
+func TestRootsOfSmallSteps(t *testing.T) {
+	m := mix(15)
+	for _, k := range []int{3, 4, 5, 7, 16} {
+		for n := 30; n < 400; n += 10 {
+			high := must(t)(nat.Left(m.full(1+n/64), n))
+			for v := range uint64(3) {
+				b := plus(t, high, nat.From(v))
+				r, s, e := roots.Root(must(t)(mul.Pow(b, k)), k)
+				wantRoot(t, "of a power", r, s, e, b, nil)
+			}
+		}
+	}
+}
+
 // wantKth asks for P4.7: r^k + s = a, and (r + 1)^k above a.
 func wantKth(t *testing.T, a api.Nat, k int) {
 	t.Helper()

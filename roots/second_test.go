@@ -281,6 +281,15 @@ func TestStepsAtTheLimit(t *testing.T) {
 	wantErr(t, "Step(2^(2 MaxBits), 2^MaxBits)", e, api.ErrBig, x)
 	x, e = roots.Step(ones(most+1), ones(most+1))
 	wantErr(t, "Step of a number by itself", e, api.ErrBig, x)
+	// A third of 2^(MaxBits + 2) has MaxBits + 1 bits, of which each second one
+	// is 1.
+	want := make(api.Nat, most/64)
+	for i := range want {
+		want[i] = 0xaaaaaaaaaaaaaaaa
+	}
+	want[0] += 2
+	x, e = roots.Step(power(most+2), api.Nat{3})
+	wantOK(t, "Step(2^(MaxBits + 2), 3)", x, e, want)
 	x, e = roots.Step(power(3*most), api.Nat{1})
 	wantErr(t, "Step(2^(3 MaxBits), 1)", e, api.ErrBig, x)
 	x, e = roots.Step(power(3*most), nil)
