@@ -6,15 +6,21 @@ import (
 	"surd/nat"
 )
 
-// maxModulus is the greatest modulus of Residue and Roots.
-const maxModulus = 65536
+const (
+	// maxModulus is the greatest modulus of Residue and Roots.
+	maxModulus = 65536
+	// maxFilter is the greatest modulus that IsSquare looks at.
+	maxFilter = 65
+)
 
 // Residue: does some square leave the same rest?
 func Residue(a api.Nat, m int) (bool, api.Errno) {
 	if m < 1 || m > maxModulus {
 		return false, api.ErrArg
 	}
-	return squareRests(m)[restOf(a, m)], api.OK
+	var flags [maxModulus]bool
+	gatherSquares(flags[:m])
+	return flags[restOf(a, m)], api.OK
 }
 
 // Roots: the numbers whose squares leave the same rest.
@@ -32,13 +38,13 @@ func Roots(a api.Nat, m int) ([]int, api.Errno) {
 	return found, api.OK
 }
 
-// squareRests are flags of the rests that squares leave.
-func squareRests(m int) []bool {
-	flags := make([]bool, m)
+// gatherSquares flags the rests that squares leave, divided by the number of
+// flags, none of which is set.
+func gatherSquares(flags []bool) {
+	m := len(flags)
 	for x := range m {
 		flags[x*x%m] = true
 	}
-	return flags
 }
 
 // restOf is what a leaves, divided by m.
@@ -58,7 +64,9 @@ func leavesSquares(a api.Nat) bool {
 	}
 	rest := restOf(a, all)
 	for _, m := range moduli {
-		if !squareRests(m)[rest%m] {
+		var flags [maxFilter]bool
+		gatherSquares(flags[:m])
+		if !flags[rest%m] {
 			return false
 		}
 	}
