@@ -78,15 +78,30 @@ func Apart(a api.Span, pos int) (api.Span, api.Span, api.Errno) {
 	return lower, upper, api.OK
 }
 
-// cutOf is where a is parted: its middle, rounded Down, or Lo.
+// cutOf is where a is parted: its middle, rounded Down, or Lo. It is not
+// answered yet: its normal exponent may be beyond what is.
 func cutOf(a api.Span, pos int) (api.Dyadic, api.Errno) {
 	middle, e := dyadic.Middle(a.Lo, a.Hi)
 	if e != api.OK {
 		return api.Dyadic{}, e
 	}
-	cut, e := dyadic.Round(middle, pos, api.Down)
+	cut, e := floorOf(middle, pos)
 	if e != api.OK {
 		return api.Dyadic{}, e
 	}
 	return hull(a.Lo, cut).Hi, api.OK
+}
+
+// floorOf is a normal number, rounded Down. Where chapter 8's Round refuses it
+// for its exponent it is told in steps of the position, not normal: if it is
+// below Lo it is no end of the answer, and then nothing refuses it.
+func floorOf(d api.Dyadic, pos int) (api.Dyadic, api.Errno) {
+	if made, e := dyadic.Round(d, pos, api.Down); e != api.ErrDyadicExp {
+		return made, e
+	}
+	// Only what is as high as MaxExp is refused so: both d's lowest bit and the
+	// position are less than MaxBits below that, and so near each other.
+	d.Exp -= pos
+	steps, e := dyadic.Whole(d, api.Down)
+	return api.Dyadic{Man: steps, Exp: pos}, e
 }

@@ -210,3 +210,55 @@ func TestApartRefused(t *testing.T) {
 	want(t, "at the bottom, below", lower, e, from(of(1, 0), of(5, -1)))
 	want(t, "at the bottom, above", upper, e, from(of(5, -1), of(4, 0)))
 }
+
+// P10.8: ends in quarters of 2^far, counted out in eighths. A cut below Lo is
+// none of the answer's ends: so it may be beyond.
+func TestApartAtTheTop(t *testing.T) {
+	isBeyond := func(n, e int) bool { return n != 0 && canonical(of(n, e)).Exp > far }
+	saved := 0
+	for _, a := range halves(34) {
+		lo, hi, middle := a[0], a[1], a[0]+a[1]
+		for pos := far - 4; pos <= far; pos++ {
+			steps := fraction{middle, 8}.steps(pos-far, false)
+			cut := of(steps, pos)
+			isBelow := compare(t, cut, of(lo, far-2)) < 0
+			if isBelow {
+				cut = of(lo, far-2)
+			}
+			lower, upper, e := span.Apart(from(of(lo, far-2), of(hi, far-2)), pos)
+			if isBeyond(middle, far-3) || isBeyond(lo, far-2) || isBeyond(hi, far-2) || !isBelow && isBeyond(steps, pos) {
+				wantErr(t, "Apart, below, beyond", lower, e, api.ErrDyadicExp)
+				wantErr(t, "Apart, above, beyond", upper, e, api.ErrDyadicExp)
+				continue
+			}
+			if isBelow && isBeyond(steps, pos) {
+				saved++
+			}
+			want(t, "Apart, below", lower, e, from(of(lo, far-2), cut))
+			want(t, "Apart, above", upper, e, from(cut, of(hi, far-2)))
+		}
+	}
+	if saved < 40 {
+		t.Errorf("%d alone with a cut beyond, below Lo", saved)
+	}
+}
+
+// P10.8: a cut that is beyond, of numbers as long as may be.
+func TestApartLongAtTheTop(t *testing.T) {
+	const n = api.MaxBits
+	// Rounded by one place it is carried through to a power of two.
+	ones := make(api.Nat, n/64)
+	for i := range ones {
+		ones[i] = ^uint64(0)
+	}
+	d := below(ones, far+1-n)
+	lower, upper, e := span.Apart(only(d), far+2-n)
+	want(t, "below Lo", lower, e, only(d))
+	want(t, "below Lo", upper, e, only(d))
+	// Half of their sum is 2.5 steps: an end beyond, between longer ones.
+	eleven := power(n)
+	eleven[0], eleven[n/64] = 1, 11
+	lower, upper, e = span.Apart(from(below(powerAnd(n, 1), far-n-1), above(eleven, far-n-1)), far)
+	wantErr(t, "the ends, long, the cut, beyond", lower, e, api.ErrBig)
+	wantErr(t, "the ends, long, the cut, beyond", upper, e, api.ErrBig)
+}
